@@ -507,30 +507,42 @@ func spareBody(list []impl.Ins) []impl.Ins {
 	return room[:len(list)]
 }
 
-// Promise 18: nothing is written into an argument, nor behind it, nor read there.
-func TestChapterOneWritesIntoNoArgument(t *testing.T) {
-	made := func(last impl.Ins) impl.Prog {
-		bodies := [][]impl.Ins{spareBody(append(chanBody(2), last)), spareBody(endsOf(2)), {{Op: -5}}}
-		return impl.Prog{Caps: []int{1, 4, 99, -9}[:2], Bodies: bodies[:2]}
+// spareProg has something in the spare room behind each of its lists; it is
+// right where last may stand last.
+func spareProg(last impl.Ins) impl.Prog {
+	bodies := [][]impl.Ins{spareBody(append(chanBody(2), last)), spareBody(endsOf(2)), {{Op: -5}}}
+	return impl.Prog{Caps: []int{1, 4, 99, -9}[:2], Bodies: bodies[:2]}
+}
+
+// wholeProg copies all that the lists of a program hold, spare room and all.
+func wholeProg(p impl.Prog) []any {
+	out := []any{slices.Clone(p.Caps[:cap(p.Caps)])}
+	for _, body := range p.Bodies[:cap(p.Bodies)] {
+		out = append(out, slices.Clone(body[:cap(body)]))
 	}
-	whole := func(p impl.Prog) []any {
-		out := []any{slices.Clone(p.Caps[:cap(p.Caps)])}
-		for _, body := range p.Bodies[:cap(p.Bodies)] {
-			out = append(out, slices.Clone(body[:cap(body)]))
-		}
-		return out
-	}
+	return out
+}
+
+// unwritten calls look with programs, right and wrong ones, and asks that it writes into none.
+func unwritten(t *testing.T, look func(p impl.Prog, right bool)) {
+	t.Helper()
 	for _, last := range []impl.Ins{{Op: impl.SrEnd}, {Op: impl.SrJump, N: 1}, {Op: impl.SrPrint}, {}} {
-		p := made(last)
-		before := whole(p)
-		right := last.Op == impl.SrEnd || last.Op == impl.SrJump
-		if impl.BodyOk(p.Bodies[0], 2) != right || impl.ProgOk(p) != right {
-			t.Error("answer", last)
-		}
-		if !reflect.DeepEqual(before, whole(p)) {
+		p := spareProg(last)
+		before := wholeProg(p)
+		look(p, last.Op == impl.SrEnd || last.Op == impl.SrJump)
+		if !reflect.DeepEqual(before, wholeProg(p)) {
 			t.Error("written into", last)
 		}
 	}
+}
+
+// Promise 18: nothing is written into an argument, nor behind it, nor read there.
+func TestChapterOneWritesIntoNoArgument(t *testing.T) {
+	unwritten(t, func(p impl.Prog, right bool) {
+		if impl.BodyOk(p.Bodies[0], 2) != right || impl.ProgOk(p) != right {
+			t.Error("answer", p)
+		}
+	})
 }
 
 // Promise 18: long and wrong lists are answered too.
