@@ -1095,7 +1095,8 @@ func TestUnderALockNothingIsLost(t *testing.T) {
 	}
 }
 
-// An explorer goes through all orders of two cores, and all late answers that they may be given.
+// An explorer goes through the orders of two cores, and all late answers that they may be given. Tries for a lock that
+// is held are bounded: there is no end to them.
 type explorer struct {
 	lock  int
 	cell  int
@@ -1107,7 +1108,7 @@ type explorer struct {
 // inside: the core stands behind its lock, and has not let go.
 func inside(c impl.Core) bool { return c.At >= 5 && c.At <= 10 }
 
-// idle: another try for the lock would differ in nothing but how often it was tried.
+// idle: the core would try once more for a lock that is held, and the lock was written often enough.
 func (e *explorer) idle(m impl.Machine, who int) bool {
 	list := m.Mem.Cells[e.lock]
 	return m.Codes[who][m.Cores[who].At].Op == impl.MaSwap && list[len(list)-1].V != 0 && len(list) > 3
@@ -1148,9 +1149,9 @@ func (e *explorer) visit(t *testing.T, m impl.Machine) {
 	}
 }
 
-// Promise 8, by all orders and all late answers of two cores that add to one cell: none is lost under the lock. If it is
+// Promise 8, by the orders and all late answers of two cores that add to one cell: none is lost under the lock. If it is
 // let go by a store, or not taken at all, some are: so it is the lock that keeps them.
-func TestAllOrdersUnderALock(t *testing.T) {
+func TestOrdersUnderALock(t *testing.T) {
 	explore := func(times int, turn func(code []impl.Step)) *explorer {
 		e := &explorer{lock: 3, cell: 4, seen: map[string]bool{}, ended: map[int]int{}}
 		one, two := adder(3, 4, times), adder(3, 4, 1)
