@@ -1,6 +1,7 @@
 package tests
 
 import (
+	"fmt"
 	"math"
 	"reflect"
 	"slices"
@@ -8,6 +9,9 @@ import (
 
 	"loop.example/g00238/impl"
 )
+
+// brief is the first part of what a value shows, for one may be long.
+func brief(v any) string { return fmt.Sprintf("%.300s", fmt.Sprint(v)) }
 
 // progRight is the document's ProgOk once more, by numbers.
 func progRight(p impl.Prog) bool {
@@ -81,7 +85,7 @@ func starts(t *testing.T, p impl.Prog, body int) []int {
 	t.Helper()
 	got := impl.Starts(p, body)
 	if want := startsWanted(p, body); !slices.Equal(got, want) {
-		t.Errorf("body %v of %.300v: %v, not %v", body, p, got, want)
+		t.Errorf("body %v of %v: %v, not %v", body, brief(p), got, want)
 	}
 	return got
 }
@@ -91,7 +95,7 @@ func compiles(t *testing.T, p impl.Prog) ([][]impl.Step, bool) {
 	t.Helper()
 	got, ok := impl.Compile(p)
 	if want, right := compileWanted(p); ok != right || !sameCodes(got, want) {
-		t.Errorf("%.300v: %v %v, not %v %v", p, got, ok, want, right)
+		t.Errorf("%v: %v %v, not %v %v", brief(p), got, ok, want, right)
 	}
 	return got, ok
 }
@@ -101,7 +105,7 @@ func belongs(t *testing.T, p impl.Prog, body int, at int) (int, bool) {
 	t.Helper()
 	got, first := impl.PlaceOf(p, body, at)
 	if want, head := placeWanted(p, body, at); got != want || first != head {
-		t.Errorf("step %v of body %v of %.300v: %v %v, not %v %v", at, body, p, got, first, want, head)
+		t.Errorf("step %v of body %v of %v: %v %v, not %v %v", at, body, brief(p), got, first, want, head)
 	}
 	return got, first
 }
@@ -673,7 +677,7 @@ func TestChapterElevenWritesIntoNoArgument(t *testing.T) {
 		compiles(t, p)
 		belongs(t, p, body, at)
 		if !reflect.DeepEqual(before, wholeProg(p)) {
-			t.Errorf("an argument was written into: %.300v", p)
+			t.Errorf("an argument was written into: %v", brief(p))
 		}
 	})
 }
@@ -701,16 +705,16 @@ func TestChapterElevenAnswersNewMemory(t *testing.T) {
 		scribble(list)
 		writeOverCodes(code)
 		if !slices.Equal(again, firsts) || !sameCodes(other, codes) {
-			t.Errorf("two answers share memory: %.300v", p)
+			t.Errorf("two answers share memory: %v", brief(p))
 		}
 		last, right := impl.Compile(p)
 		own, head := impl.PlaceOf(p, body, at)
 		if !slices.Equal(impl.Starts(p, body), firsts) || right != ok || !sameCodes(last, codes) || own != place || head != first {
-			t.Errorf("something was kept: %.300v", p)
+			t.Errorf("something was kept: %v", brief(p))
 		}
 		writeOver(p)
 		if !slices.Equal(again, firsts) || !sameCodes(other, codes) {
-			t.Errorf("the argument lies in the answer: %.300v", p)
+			t.Errorf("the argument lies in the answer: %v", brief(p))
 		}
 	})
 }
