@@ -796,29 +796,34 @@ func TestWitnessOfFaultsAndEnds(t *testing.T) {
 	}
 }
 
-// A program that is not ProgOk has neither, in each of the ways.
-func TestWitnessOfWrongProgs(t *testing.T) {
+// eachWrongProg goes through programs that are not ProgOk, in each of the ways, each wrong in one.
+func eachWrongProg(look func(what string, p impl.Prog)) {
 	for _, p := range wrongProgs() {
-		noWitness(t, "no program", p)
+		look("no program", p)
 	}
 	right := pairProg().Bodies[0]
 	for what, list := range wrongBodies() {
-		noWitness(t, what, impl.Prog{Caps: []int{2}, Bodies: [][]impl.Ins{list}})
+		look(what, impl.Prog{Caps: []int{2}, Bodies: [][]impl.Ins{list}})
 		for at := range 4 {
 			bodies := slices.Repeat([][]impl.Ins{right}, 4)
 			bodies[at] = list
-			noWitness(t, what+" among four", impl.Prog{Caps: []int{2}, Bodies: bodies})
+			look(what+" among four", impl.Prog{Caps: []int{2}, Bodies: bodies})
 		}
 	}
 	for _, wrong := range slices.Concat([]int{0, -1, 5, 24}, ends64) {
 		for _, caps := range [][]int{{wrong}, {wrong, 1}, {1, wrong}, {1, 1, wrong}} {
-			noWitness(t, "caps", impl.Prog{Caps: caps, Bodies: pairProg().Bodies})
+			look("caps", impl.Prog{Caps: caps, Bodies: pairProg().Bodies})
 		}
 	}
-	noWitness(t, "channels", impl.Prog{Caps: []int{2, 1, 1, 1}, Bodies: pairProg().Bodies})
+	look("channels", impl.Prog{Caps: []int{2, 1, 1, 1}, Bodies: pairProg().Bodies})
 	for _, count := range []int{0, 5, 1000} {
-		noWitness(t, "bodies", impl.Prog{Caps: []int{2}, Bodies: slices.Repeat([][]impl.Ins{right}, count)})
+		look("bodies", impl.Prog{Caps: []int{2}, Bodies: slices.Repeat([][]impl.Ins{right}, count)})
 	}
+}
+
+// A program that is not ProgOk has neither, in each of the ways.
+func TestWitnessOfWrongProgs(t *testing.T) {
+	eachWrongProg(func(what string, p impl.Prog) { noWitness(t, what, p) })
 	if pair := somePairs()[0]; !commits(t, pairProg(), pair[0], pair[1], 0) {
 		t.Error("the right one")
 	}
